@@ -12,7 +12,8 @@ func number(n uint64) api.Rat { return api.Rat{Num: []uint64{n}, Den: []uint64{1
 
 // TestFault: each way to break the rule is told, and keeping it is not.
 func TestFault(t *testing.T) {
-	kept := []api.Term{{Col: 1, A: number(5)}}
+	// Each case keeps memory of its own: one that another has scribbled over would look unchanged.
+	kept, anew := []api.Term{{Col: 1, A: number(5)}}, []api.Term{{}}
 	for name, c := range map[string]struct {
 		call func(v []api.Term) []api.Term
 		want string
@@ -35,8 +36,8 @@ func TestFault(t *testing.T) {
 		}, "two lists"},
 		"earlier": {func(v []api.Term) []api.Term { return kept }, "earlier"},
 		"written anew": {func(v []api.Term) []api.Term {
-			kept[0] = api.Term{Col: 1, A: number(5)}
-			return kept
+			anew[0] = api.Term{Col: 1, A: number(5)}
+			return anew
 		}, "earlier"},
 	} {
 		v := guard.Terms([]api.Term{{Col: 0, A: number(1)}, {Col: 2, A: number(3)}})
