@@ -70,6 +70,7 @@ func calls() map[string]func(a, b api.Ext) [][]uint64 {
 			x, _ := ext.Read(s)
 			return lists(x)
 		},
+		"Copy": func(a, b api.Ext) [][]uint64 { return lists(ext.Copy(a), ext.Copy(b)) },
 		"none": func(a, b api.Ext) [][]uint64 {
 			ext.Form(a)
 			ext.Cmp(a, b)

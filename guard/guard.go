@@ -12,9 +12,10 @@ type Book struct {
 	lists []list
 }
 
-// A list tells what stands in it now, but for what the lists inside it hold, and can be overwritten with its spare room.
+// A list tells what stands in it now, and what stands in it and its spare room, but for what the lists inside it hold; and it can be overwritten with its spare room.
 type list struct {
 	text     func() string
+	room     func() string
 	scribble func()
 }
 
@@ -67,16 +68,17 @@ func (b *Book) scribble() {
 	}
 }
 
-// apart overwrites the lists one by one, and asks whether those that are still to come stay as they are.
+// apart overwrites the lists one by one, and asks each ahead of that whether it is still as it was, its spare room too.
 func (b *Book) apart() bool {
-	texts := b.texts()
+	var rooms []string
+	for _, l := range b.lists {
+		rooms = append(rooms, l.room())
+	}
 	for i, l := range b.lists {
-		l.scribble()
-		for k := i + 1; k < len(texts); k++ {
-			if b.lists[k].text() != texts[k] {
-				return false
-			}
+		if l.room() != rooms[i] {
+			return false
 		}
+		l.scribble()
 	}
 	return true
 }
@@ -87,14 +89,16 @@ func note[T any](b *Book, a []T, text func(T) string, scrawl T) []T {
 	if b.spare {
 		a = full
 	}
+	tell := func(a []T) string {
+		var out strings.Builder
+		for _, x := range a {
+			out.WriteString(text(x) + ";")
+		}
+		return out.String()
+	}
 	b.lists = append(b.lists, list{
-		text: func() string {
-			var out strings.Builder
-			for _, x := range a {
-				out.WriteString(text(x) + ";")
-			}
-			return out.String()
-		},
+		text: func() string { return tell(a) },
+		room: func() string { return tell(full) },
 		scribble: func() {
 			for i := range full {
 				full[i] = scrawl

@@ -35,6 +35,10 @@ func TestFault(t *testing.T) {
 			a := []uint64{7, 1}
 			return []api.Term{{A: api.Rat{Num: a[:1], Den: a[1:]}}}
 		}, "two lists"},
+		{"spare room twice", func(v []api.Term) []api.Term {
+			a := []uint64{7, 0, 1}
+			return []api.Term{{A: api.Rat{Num: a[:1], Den: a[2:2]}}}
+		}, "two lists"},
 		{"earlier", func(v []api.Term) []api.Term { return kept }, "earlier"},
 		{"written anew", func(v []api.Term) []api.Term {
 			anew[0] = api.Term{Col: 1, A: number(5)}
@@ -66,6 +70,89 @@ func TestMatrix(t *testing.T) {
 	} {
 		a := guard.Matrix([][]api.Rat{{number(1)}, {number(2)}})
 		fault := guard.Fault(func(b *guard.Book) { b.Matrix(a) }, func(b *guard.Book) { b.Matrix(c.call(a)) })
+		if (fault == "") != (c.want == "") || !strings.Contains(fault, c.want) {
+			t.Errorf("%s: %q", c.name, fault)
+		}
+	}
+}
+
+// TestModel: columns, rows and all that stands in them are lists, too.
+func TestModel(t *testing.T) {
+	small := func() api.Model {
+		x := func() api.Ext { return api.Ext{V: number(1)} }
+		col := func(name string) api.Col { return api.Col{Name: name, Cost: number(2), Lo: x(), Hi: x()} }
+		row := func(name string) api.Row {
+			return api.Row{Name: name, Lo: x(), Hi: x(), Terms: []api.Term{{Col: 1, A: number(3)}}}
+		}
+		return api.Model{Offset: number(5), Cols: []api.Col{col("x"), col("y")}, Rows: []api.Row{row("r"), row("s")}}
+	}
+	for _, c := range []struct {
+		name string
+		call func(m api.Model) api.Model
+		want string
+	}{
+		{"new", func(m api.Model) api.Model { return guard.Model(m) }, ""},
+		{"nothing", func(m api.Model) api.Model { return api.Model{} }, ""},
+		{"the offset", func(m api.Model) api.Model { m.Offset.Num[0]++; return api.Model{} }, "changed"},
+		{"a column's name", func(m api.Model) api.Model { m.Cols[1].Name = "z"; return api.Model{} }, "changed"},
+		{"a column's cost", func(m api.Model) api.Model { m.Cols[0].Cost.Neg = true; return api.Model{} }, "changed"},
+		{"a column's Lo", func(m api.Model) api.Model { m.Cols[0].Lo.Inf = -1; return api.Model{} }, "changed"},
+		{"a column's Hi", func(m api.Model) api.Model { m.Cols[0].Hi.V.Num[0]++; return api.Model{} }, "changed"},
+		{"a column's room", func(m api.Model) api.Model { _ = append(m.Cols, api.Col{Name: "z"}); return api.Model{} }, "changed"},
+		{"a row's name", func(m api.Model) api.Model { m.Rows[1].Name = "z"; return api.Model{} }, "changed"},
+		{"a row's Lo", func(m api.Model) api.Model { m.Rows[1].Lo.V.Den[0]++; return api.Model{} }, "changed"},
+		{"a row's Hi", func(m api.Model) api.Model { m.Rows[0].Hi.Inf = 1; return api.Model{} }, "changed"},
+		{"a row's terms", func(m api.Model) api.Model { m.Rows[0].Terms = nil; return api.Model{} }, "changed"},
+		{"a term", func(m api.Model) api.Model { m.Rows[0].Terms[0].Col++; return api.Model{} }, "changed"},
+		{"a row's room", func(m api.Model) api.Model { _ = append(m.Rows, api.Row{Name: "z"}); return api.Model{} }, "changed"},
+		{"the offset handed", func(m api.Model) api.Model { return api.Model{Offset: m.Offset} }, "handed in"},
+		{"a cost handed", func(m api.Model) api.Model { return api.Model{Cols: []api.Col{{Cost: m.Cols[1].Cost}}} }, "handed in"},
+		{"a column's Lo handed", func(m api.Model) api.Model { return api.Model{Cols: []api.Col{{Lo: m.Cols[1].Lo}}} }, "handed in"},
+		{"a column's Hi handed", func(m api.Model) api.Model { return api.Model{Cols: []api.Col{{Hi: m.Cols[1].Hi}}} }, "handed in"},
+		{"a row's Lo handed", func(m api.Model) api.Model { return api.Model{Rows: []api.Row{{Lo: m.Rows[1].Lo}}} }, "handed in"},
+		{"a row's Hi handed", func(m api.Model) api.Model { return api.Model{Rows: []api.Row{{Hi: m.Rows[1].Hi}}} }, "handed in"},
+		{"terms handed", func(m api.Model) api.Model { return api.Model{Rows: []api.Row{{Terms: m.Rows[1].Terms}}} }, "handed in"},
+		{"columns handed", func(m api.Model) api.Model { return api.Model{Cols: m.Cols} }, "handed in"},
+		{"rows handed", func(m api.Model) api.Model { return api.Model{Rows: m.Rows[2:]} }, "handed in"},
+		{"bounds twice", func(m api.Model) api.Model {
+			x := api.Ext{V: number(1)}
+			return api.Model{Cols: []api.Col{{Lo: x, Hi: x}}}
+		}, "two lists"},
+		{"terms twice", func(m api.Model) api.Model {
+			v := []api.Term{{Col: 1, A: number(3)}}
+			return api.Model{Rows: []api.Row{{Terms: v}, {Terms: v}}}
+		}, "two lists"},
+	} {
+		m := guard.Model(small())
+		fault := guard.Fault(func(b *guard.Book) { b.Model(m) }, func(b *guard.Book) { b.Model(c.call(m)) })
+		if (fault == "") != (c.want == "") || !strings.Contains(fault, c.want) {
+			t.Errorf("%s: %q", c.name, fault)
+		}
+	}
+}
+
+// TestPlaces: lists of places, and of lists of terms, are told as the others are.
+func TestPlaces(t *testing.T) {
+	nothing := func(b *guard.Book) {}
+	kept := []int{1, 2}
+	if fault := guard.Fault(nothing, func(b *guard.Book) { b.Ints([]int{1, 2}) }); fault != "" {
+		t.Errorf("new places: %q", fault)
+	}
+	if fault := guard.Fault(nothing, func(b *guard.Book) { b.Ints(kept) }); !strings.Contains(fault, "earlier") {
+		t.Errorf("places kept: %q", fault)
+	}
+	for _, c := range []struct {
+		name string
+		call func(v []api.Term) [][]api.Term
+		want string
+	}{
+		{"new columns", func(v []api.Term) [][]api.Term { return [][]api.Term{guard.Terms(v), nil} }, ""},
+		{"a number handed on", func(v []api.Term) [][]api.Term { return [][]api.Term{{{A: v[0].A}}} }, "handed in"},
+		{"a list handed on", func(v []api.Term) [][]api.Term { return [][]api.Term{nil, v} }, "handed in"},
+		{"a list twice", func(v []api.Term) [][]api.Term { w := guard.Terms(v); return [][]api.Term{w, w} }, "two lists"},
+	} {
+		v := guard.Terms([]api.Term{{Col: 1, A: number(3)}})
+		fault := guard.Fault(func(b *guard.Book) { b.Terms(v) }, func(b *guard.Book) { b.Columns(c.call(v)) })
 		if (fault == "") != (c.want == "") || !strings.Contains(fault, c.want) {
 			t.Errorf("%s: %q", c.name, fault)
 		}

@@ -46,6 +46,31 @@ func Terms(v []api.Term) []api.Term {
 	return out
 }
 
+// Ext: see Rat.
+func Ext(x api.Ext) api.Ext { return api.Ext{Inf: x.Inf, V: Rat(x.V)} }
+
+// Col: see Rat.
+func Col(c api.Col) api.Col {
+	return api.Col{Name: c.Name, Cost: Rat(c.Cost), Lo: Ext(c.Lo), Hi: Ext(c.Hi)}
+}
+
+// Row: see Rat.
+func Row(r api.Row) api.Row {
+	return api.Row{Name: r.Name, Lo: Ext(r.Lo), Hi: Ext(r.Hi), Terms: Terms(r.Terms)}
+}
+
+// Model: see Rat.
+func Model(m api.Model) api.Model {
+	out := api.Model{Offset: Rat(m.Offset), Cols: padded(m.Cols, Col(api.Col{})), Rows: padded(m.Rows, Row(api.Row{}))}
+	for i, c := range m.Cols {
+		out.Cols[i] = Col(c)
+	}
+	for i, r := range m.Rows {
+		out.Rows[i] = Row(r)
+	}
+	return out
+}
+
 // Limbs tells one list.
 func (b *Book) Limbs(a []uint64) {
 	note(b, a, func(w uint64) string { return strconv.FormatUint(w, 10) }, scrawl)
@@ -78,6 +103,54 @@ func (b *Book) Terms(v []api.Term) {
 		b.Rat(t.A)
 	}
 }
+
+// Columns tells the list, and those of its lists of terms.
+func (b *Book) Columns(l [][]api.Term) {
+	for _, v := range note(b, l, func(v []api.Term) string { return strconv.Itoa(len(v)) }, make([]api.Term, 1000)) {
+		b.Terms(v)
+	}
+}
+
+// Ints tells one list.
+func (b *Book) Ints(a []int) { note(b, a, strconv.Itoa, scrawl) }
+
+// Ext tells the lists of a bound.
+func (b *Book) Ext(x api.Ext) { b.Rat(x.V) }
+
+// Col tells the lists of a column.
+func (b *Book) Col(c api.Col) {
+	b.Rat(c.Cost)
+	b.Ext(c.Lo)
+	b.Ext(c.Hi)
+}
+
+// Row tells the lists of a row.
+func (b *Book) Row(r api.Row) {
+	b.Ext(r.Lo)
+	b.Ext(r.Hi)
+	b.Terms(r.Terms)
+}
+
+// Model tells the lists of a model, and those of its columns and rows.
+func (b *Book) Model(m api.Model) {
+	b.Rat(m.Offset)
+	for _, c := range note(b, m.Cols, colText, api.Col{Name: "scrawl"}) {
+		b.Col(c)
+	}
+	for _, r := range note(b, m.Rows, rowText, api.Row{Name: "scrawl"}) {
+		b.Row(r)
+	}
+}
+
+func colText(c api.Col) string {
+	return c.Name + ":" + ratText(c.Cost) + ":" + extText(c.Lo) + ":" + extText(c.Hi)
+}
+
+func rowText(r api.Row) string {
+	return r.Name + ":" + extText(r.Lo) + ":" + extText(r.Hi) + ":" + strconv.Itoa(len(r.Terms))
+}
+
+func extText(x api.Ext) string { return strconv.Itoa(x.Inf) + "," + ratText(x.V) }
 
 func ratText(r api.Rat) string {
 	return strconv.FormatBool(r.Neg) + "," + strconv.Itoa(len(r.Num)) + "," + strconv.Itoa(len(r.Den))
