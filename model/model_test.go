@@ -31,6 +31,9 @@ func TestNames(t *testing.T) {
 		if e, f := model.Check(col), model.Check(row); e != want || f != want {
 			t.Errorf("P7.1: the name %q: as a column's %d, as a row's %d, want %d", name, e, f, want)
 		}
+		if is := model.IsName(name); is != (want == api.OK) {
+			t.Errorf("IsName(%q) = %v", name, is)
+		}
 	}
 	for b := range 256 {
 		letter := b >= 'a' && b <= 'z'

@@ -19,14 +19,15 @@ func names(m api.Model) (cols, rows []string) {
 
 func allNames(texts []string) bool {
 	for _, s := range texts {
-		if !isName(s) {
+		if !IsName(s) {
 			return false
 		}
 	}
 	return true
 }
 
-func isName(s string) bool {
+// IsName: is s a name? It is for the layers above, which read texts.
+func IsName(s string) bool {
 	if len(s) < 1 || len(s) > api.MaxName || !isLetter(s[0]) {
 		return false
 	}
