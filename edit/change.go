@@ -12,7 +12,7 @@ func changed(m api.Model, there bool, handed api.Errno, change func(out *api.Mod
 	if e == api.OK && !there {
 		e = api.ErrArg
 	}
-	if e = least(e, handed); e != api.OK {
+	if e = model.Least(e, handed); e != api.OK {
 		return api.Model{}, e
 	}
 	change(&out)
@@ -31,12 +31,4 @@ func formError(inForm bool) api.Errno {
 		return api.OK
 	}
 	return api.ErrForm
-}
-
-// least answers the lesser of two errors, where OK is none.
-func least(e, f api.Errno) api.Errno {
-	if e == api.OK || f != api.OK && f < e {
-		return f
-	}
-	return e
 }

@@ -131,6 +131,37 @@ func TestModel(t *testing.T) {
 	}
 }
 
+// TestPoint: each of a point's lists, and the numbers in it.
+func TestPoint(t *testing.T) {
+	for _, c := range []struct {
+		name string
+		call func(p api.Point) api.Point
+		want string
+	}{
+		{"new", func(p api.Point) api.Point { return guard.Point(p) }, ""},
+		{"a number of X", func(p api.Point) api.Point { p.X[1].Neg = true; return api.Point{} }, "changed"},
+		{"a number of Y", func(p api.Point) api.Point { p.Y[0].Num[0]++; return api.Point{} }, "changed"},
+		{"a number of Z", func(p api.Point) api.Point { p.Z[0].Den[0]++; return api.Point{} }, "changed"},
+		{"the room of X", func(p api.Point) api.Point { _ = append(p.X, number(1)); return api.Point{} }, "changed"},
+		{"the room of Y", func(p api.Point) api.Point { _ = append(p.Y, number(1)); return api.Point{} }, "changed"},
+		{"the room of Z", func(p api.Point) api.Point { _ = append(p.Z, number(1)); return api.Point{} }, "changed"},
+		{"X handed", func(p api.Point) api.Point { return api.Point{X: p.X} }, "handed in"},
+		{"Y handed", func(p api.Point) api.Point { return api.Point{Y: p.Y[1:]} }, "handed in"},
+		{"a number of Z handed", func(p api.Point) api.Point { return api.Point{Z: []api.Rat{p.Z[0]}} }, "handed in"},
+		{"X and Z in one", func(p api.Point) api.Point { x := guard.Rats(p.X); return api.Point{X: x, Z: x} }, "two lists"},
+		{"a number in X and Y", func(p api.Point) api.Point {
+			n := number(1)
+			return api.Point{X: []api.Rat{n}, Y: []api.Rat{n}}
+		}, "two lists"},
+	} {
+		p := guard.Point(api.Point{X: []api.Rat{number(1), number(2)}, Y: []api.Rat{number(3)}, Z: []api.Rat{number(4), number(5)}})
+		fault := guard.Fault(func(b *guard.Book) { b.Point(p) }, func(b *guard.Book) { b.Point(c.call(p)) })
+		if (fault == "") != (c.want == "") || !strings.Contains(fault, c.want) {
+			t.Errorf("%s: %q", c.name, fault)
+		}
+	}
+}
+
 // TestPlaces: lists of places, and of lists of terms, are told as the others are.
 func TestPlaces(t *testing.T) {
 	nothing := func(b *guard.Book) {}

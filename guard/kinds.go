@@ -71,6 +71,9 @@ func Model(m api.Model) api.Model {
 	return out
 }
 
+// Point: see Rat.
+func Point(p api.Point) api.Point { return api.Point{X: Rats(p.X), Y: Rats(p.Y), Z: Rats(p.Z)} }
+
 // Limbs tells one list.
 func (b *Book) Limbs(a []uint64) {
 	note(b, a, func(w uint64) string { return strconv.FormatUint(w, 10) }, scrawl)
@@ -140,6 +143,13 @@ func (b *Book) Model(m api.Model) {
 	for _, r := range note(b, m.Rows, rowText, api.Row{Name: "scrawl"}) {
 		b.Row(r)
 	}
+}
+
+// Point tells the lists of a point, and those of their numbers.
+func (b *Book) Point(p api.Point) {
+	b.Rats(p.X)
+	b.Rats(p.Y)
+	b.Rats(p.Z)
 }
 
 func colText(c api.Col) string {

@@ -55,3 +55,20 @@ func TestBrokenEqual(t *testing.T) {
 		}
 	}
 }
+
+// TestLeast: OK is none, whichever place it stands at.
+func TestLeast(t *testing.T) {
+	for _, c := range []struct {
+		list []api.Errno
+		want api.Errno
+	}{
+		{nil, api.OK}, {[]api.Errno{api.OK}, api.OK}, {[]api.Errno{api.OK, api.OK, api.OK}, api.OK},
+		{[]api.Errno{api.ErrForm}, api.ErrForm}, {[]api.Errno{api.OK, api.ErrForm}, api.ErrForm}, {[]api.Errno{api.ErrForm, api.OK}, api.ErrForm},
+		{[]api.Errno{api.ErrUnlike, api.ErrForm}, api.ErrForm}, {[]api.Errno{api.ErrForm, api.ErrUnlike}, api.ErrForm},
+		{[]api.Errno{api.ErrPass, api.OK, api.ErrName, api.ErrArg, api.OK, api.ErrText}, api.ErrArg},
+	} {
+		if e := model.Least(c.list...); e != c.want {
+			t.Errorf("Least(%v) = %d, want %d", c.list, e, c.want)
+		}
+	}
+}
