@@ -162,6 +162,65 @@ func TestPoint(t *testing.T) {
 	}
 }
 
+// TestCert: each of a certificate's lists, and the numbers in it.
+func TestCert(t *testing.T) {
+	for _, c := range []struct {
+		name string
+		call func(c api.Cert) api.Cert
+		want string
+	}{
+		{"new", func(c api.Cert) api.Cert { return guard.Cert(c) }, ""},
+		{"a number of RowLo", func(c api.Cert) api.Cert { c.RowLo[1].Neg = true; return api.Cert{} }, "changed"},
+		{"a number of RowHi", func(c api.Cert) api.Cert { c.RowHi[0].Num[0]++; return api.Cert{} }, "changed"},
+		{"a number of ColLo", func(c api.Cert) api.Cert { c.ColLo[0].Den[0]++; return api.Cert{} }, "changed"},
+		{"a number of ColHi", func(c api.Cert) api.Cert { c.ColHi[1].Num[0]++; return api.Cert{} }, "changed"},
+		{"the room of RowLo", func(c api.Cert) api.Cert { _ = append(c.RowLo, number(1)); return api.Cert{} }, "changed"},
+		{"the room of RowHi", func(c api.Cert) api.Cert { _ = append(c.RowHi, number(1)); return api.Cert{} }, "changed"},
+		{"the room of ColLo", func(c api.Cert) api.Cert { _ = append(c.ColLo, number(1)); return api.Cert{} }, "changed"},
+		{"the room of ColHi", func(c api.Cert) api.Cert { _ = append(c.ColHi, number(1)); return api.Cert{} }, "changed"},
+		{"RowLo handed", func(c api.Cert) api.Cert { return api.Cert{RowHi: c.RowLo} }, "handed in"},
+		{"RowHi handed", func(c api.Cert) api.Cert { return api.Cert{RowHi: c.RowHi[1:]} }, "handed in"},
+		{"a number of ColLo handed", func(c api.Cert) api.Cert { return api.Cert{RowLo: []api.Rat{c.ColLo[0]}} }, "handed in"},
+		{"a number of ColHi handed", func(c api.Cert) api.Cert { return api.Cert{ColLo: []api.Rat{c.ColHi[0]}} }, "handed in"},
+		{"two in one", func(c api.Cert) api.Cert { x := guard.Rats(c.ColLo); return api.Cert{RowLo: x, ColHi: x} }, "two lists"},
+		{"a number twice", func(c api.Cert) api.Cert {
+			n := number(1)
+			return api.Cert{RowHi: []api.Rat{n}, ColHi: []api.Rat{n}}
+		}, "two lists"},
+	} {
+		pair := func() []api.Rat { return []api.Rat{number(1), number(2)} }
+		given := guard.Cert(api.Cert{RowLo: pair(), RowHi: pair(), ColLo: pair(), ColHi: pair()})
+		fault := guard.Fault(func(b *guard.Book) { b.Cert(given) }, func(b *guard.Book) { b.Cert(c.call(given)) })
+		if (fault == "") != (c.want == "") || !strings.Contains(fault, c.want) {
+			t.Errorf("%s: %q", c.name, fault)
+		}
+	}
+}
+
+// TestRay: the point and the direction, and the numbers in them.
+func TestRay(t *testing.T) {
+	for _, c := range []struct {
+		name string
+		call func(r api.Ray) api.Ray
+		want string
+	}{
+		{"new", func(r api.Ray) api.Ray { return guard.Ray(r) }, ""},
+		{"a number of X", func(r api.Ray) api.Ray { r.X[1].Num[0]++; return api.Ray{} }, "changed"},
+		{"a number of D", func(r api.Ray) api.Ray { r.D[0].Neg = true; return api.Ray{} }, "changed"},
+		{"the room of X", func(r api.Ray) api.Ray { _ = append(r.X, number(1)); return api.Ray{} }, "changed"},
+		{"the room of D", func(r api.Ray) api.Ray { _ = append(r.D, number(1)); return api.Ray{} }, "changed"},
+		{"X handed", func(r api.Ray) api.Ray { return api.Ray{D: r.X} }, "handed in"},
+		{"a number of D handed", func(r api.Ray) api.Ray { return api.Ray{X: []api.Rat{r.D[1]}} }, "handed in"},
+		{"two in one", func(r api.Ray) api.Ray { x := guard.Rats(r.X); return api.Ray{X: x, D: x} }, "two lists"},
+	} {
+		given := guard.Ray(api.Ray{X: []api.Rat{number(1), number(2)}, D: []api.Rat{number(3), number(4)}})
+		fault := guard.Fault(func(b *guard.Book) { b.Ray(given) }, func(b *guard.Book) { b.Ray(c.call(given)) })
+		if (fault == "") != (c.want == "") || !strings.Contains(fault, c.want) {
+			t.Errorf("%s: %q", c.name, fault)
+		}
+	}
+}
+
 // TestPlaces: lists of places, and of lists of terms, are told as the others are.
 func TestPlaces(t *testing.T) {
 	nothing := func(b *guard.Book) {}

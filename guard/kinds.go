@@ -74,6 +74,14 @@ func Model(m api.Model) api.Model {
 // Point: see Rat.
 func Point(p api.Point) api.Point { return api.Point{X: Rats(p.X), Y: Rats(p.Y), Z: Rats(p.Z)} }
 
+// Cert: see Rat.
+func Cert(c api.Cert) api.Cert {
+	return api.Cert{RowLo: Rats(c.RowLo), RowHi: Rats(c.RowHi), ColLo: Rats(c.ColLo), ColHi: Rats(c.ColHi)}
+}
+
+// Ray: see Rat.
+func Ray(r api.Ray) api.Ray { return api.Ray{X: Rats(r.X), D: Rats(r.D)} }
+
 // Limbs tells one list.
 func (b *Book) Limbs(a []uint64) {
 	note(b, a, func(w uint64) string { return strconv.FormatUint(w, 10) }, scrawl)
@@ -150,6 +158,20 @@ func (b *Book) Point(p api.Point) {
 	b.Rats(p.X)
 	b.Rats(p.Y)
 	b.Rats(p.Z)
+}
+
+// Cert tells the lists of multipliers, and those of their numbers.
+func (b *Book) Cert(c api.Cert) {
+	b.Rats(c.RowLo)
+	b.Rats(c.RowHi)
+	b.Rats(c.ColLo)
+	b.Rats(c.ColHi)
+}
+
+// Ray tells the lists of a ray, and those of their numbers.
+func (b *Book) Ray(r api.Ray) {
+	b.Rats(r.X)
+	b.Rats(r.D)
 }
 
 func colText(c api.Col) string {
