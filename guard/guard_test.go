@@ -221,6 +221,47 @@ func TestRay(t *testing.T) {
 	}
 }
 
+// TestBasis: the statuses of columns, and those of rows.
+func TestBasis(t *testing.T) {
+	type status = api.Status
+	for _, c := range []struct {
+		name string
+		call func(s api.Basis) api.Basis
+		want string
+	}{
+		{"new", func(s api.Basis) api.Basis { return guard.Basis(s) }, ""},
+		{"a column's status", func(s api.Basis) api.Basis { s.Cols[1] = api.Free; return api.Basis{} }, "changed"},
+		{"a row's status", func(s api.Basis) api.Basis { s.Rows[0] = api.Basic; return api.Basis{} }, "changed"},
+		{"the room of Cols", func(s api.Basis) api.Basis { _ = append(s.Cols, 0); return api.Basis{} }, "changed"},
+		{"the room of Rows", func(s api.Basis) api.Basis { _ = append(s.Rows, 0); return api.Basis{} }, "changed"},
+		{"Cols handed", func(s api.Basis) api.Basis { return api.Basis{Rows: s.Cols} }, "handed in"},
+		{"Rows handed", func(s api.Basis) api.Basis { return api.Basis{Rows: s.Rows[1:]} }, "handed in"},
+		{"two in one", func(s api.Basis) api.Basis { l := []status{1, 2}; return api.Basis{Cols: l, Rows: l} }, "two lists"},
+		{"one in the other's room", func(s api.Basis) api.Basis { l := []status{1, 2}; return api.Basis{Cols: l[:1], Rows: l[1:]} }, "two lists"},
+	} {
+		given := guard.Basis(api.Basis{Cols: []status{1, 2}, Rows: []status{3}})
+		fault := guard.Fault(func(b *guard.Book) { b.Basis(given) }, func(b *guard.Book) { b.Basis(c.call(given)) })
+		if (fault == "") != (c.want == "") || !strings.Contains(fault, c.want) {
+			t.Errorf("%s: %q", c.name, fault)
+		}
+	}
+}
+
+// TestList: a list of another kind.
+func TestList(t *testing.T) {
+	nothing := func(b *guard.Book) {}
+	kept := [][2]int{{1, 2}}
+	tell := func(b *guard.Book, l [][2]int) {
+		guard.List(b, l, func(p [2]int) string { return string(rune('a' + p[0]%7)) }, [2]int{5, 5})
+	}
+	if fault := guard.Fault(nothing, func(b *guard.Book) { tell(b, [][2]int{{1, 2}}) }); fault != "" {
+		t.Errorf("a new list: %q", fault)
+	}
+	if fault := guard.Fault(nothing, func(b *guard.Book) { tell(b, kept) }); !strings.Contains(fault, "earlier") {
+		t.Errorf("a list kept: %q", fault)
+	}
+}
+
 // TestPlaces: lists of places, and of lists of terms, are told as the others are.
 func TestPlaces(t *testing.T) {
 	nothing := func(b *guard.Book) {}

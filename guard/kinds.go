@@ -82,6 +82,14 @@ func Cert(c api.Cert) api.Cert {
 // Ray: see Rat.
 func Ray(r api.Ray) api.Ray { return api.Ray{X: Rats(r.X), D: Rats(r.D)} }
 
+// Basis: see Rat.
+func Basis(s api.Basis) api.Basis {
+	return api.Basis{Cols: padded(s.Cols, api.Status(mark)), Rows: padded(s.Rows, api.Status(mark))}
+}
+
+// List tells one list of a kind that this package doesn't know, whose elements have no lists of their own.
+func List[T any](b *Book, a []T, text func(T) string, scrawl T) { note(b, a, text, scrawl) }
+
 // Limbs tells one list.
 func (b *Book) Limbs(a []uint64) {
 	note(b, a, func(w uint64) string { return strconv.FormatUint(w, 10) }, scrawl)
@@ -172,6 +180,13 @@ func (b *Book) Cert(c api.Cert) {
 func (b *Book) Ray(r api.Ray) {
 	b.Rats(r.X)
 	b.Rats(r.D)
+}
+
+// Basis tells both lists of statuses.
+func (b *Book) Basis(s api.Basis) {
+	text := func(s api.Status) string { return strconv.Itoa(int(s)) }
+	note(b, s.Cols, text, api.Status(scrawl))
+	note(b, s.Rows, text, api.Status(scrawl))
 }
 
 func colText(c api.Col) string {
