@@ -247,6 +247,41 @@ func TestBasis(t *testing.T) {
 	}
 }
 
+// TestAnswer: the value, the point, the basis, the certificate and the ray.
+func TestAnswer(t *testing.T) {
+	for _, c := range []struct {
+		name string
+		call func(a api.Answer) api.Answer
+		want string
+	}{
+		{"new", func(a api.Answer) api.Answer { return guard.Answer(a) }, ""},
+		{"the value", func(a api.Answer) api.Answer { a.Value.Num[0]++; return api.Answer{} }, "changed"},
+		{"the value's room", func(a api.Answer) api.Answer { _ = append(a.Value.Den, 1); return api.Answer{} }, "changed"},
+		{"a number of the point", func(a api.Answer) api.Answer { a.Point.Y[0].Num[0]++; return api.Answer{} }, "changed"},
+		{"a status", func(a api.Answer) api.Answer { a.Basis.Cols[0]++; return api.Answer{} }, "changed"},
+		{"a multiplier", func(a api.Answer) api.Answer { a.Cert.ColHi[0].Den[0]++; return api.Answer{} }, "changed"},
+		{"a number of the ray", func(a api.Answer) api.Answer { a.Ray.D[0].Num[0]++; return api.Answer{} }, "changed"},
+		{"the value handed", func(a api.Answer) api.Answer { return api.Answer{Value: a.Value} }, "handed in"},
+		{"the basis handed", func(a api.Answer) api.Answer { return api.Answer{Basis: a.Basis} }, "handed in"},
+		{"the ray handed", func(a api.Answer) api.Answer { return api.Answer{Ray: api.Ray{X: a.Ray.X}} }, "handed in"},
+		{"the value in the point", func(a api.Answer) api.Answer {
+			r := number(1)
+			return api.Answer{Value: r, Point: api.Point{X: []api.Rat{r}}}
+		}, "two lists"},
+		{"the point in the ray", func(a api.Answer) api.Answer {
+			x := []api.Rat{number(1)}
+			return api.Answer{Point: api.Point{X: x}, Ray: api.Ray{X: x}}
+		}, "two lists"},
+	} {
+		one := []api.Rat{number(3)}
+		given := guard.Answer(api.Answer{Value: number(2), Point: api.Point{X: one, Y: one, Z: one}, Basis: api.Basis{Cols: []api.Status{1}, Rows: []api.Status{2}}, Cert: api.Cert{RowLo: one, RowHi: one, ColLo: one, ColHi: one}, Ray: api.Ray{X: one, D: one}})
+		fault := guard.Fault(func(b *guard.Book) { b.Answer(given) }, func(b *guard.Book) { b.Answer(c.call(given)) })
+		if (fault == "") != (c.want == "") || !strings.Contains(fault, c.want) {
+			t.Errorf("%s: %q", c.name, fault)
+		}
+	}
+}
+
 // TestList: a list of another kind.
 func TestList(t *testing.T) {
 	nothing := func(b *guard.Book) {}

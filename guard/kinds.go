@@ -87,6 +87,11 @@ func Basis(s api.Basis) api.Basis {
 	return api.Basis{Cols: padded(s.Cols, api.Status(mark)), Rows: padded(s.Rows, api.Status(mark))}
 }
 
+// Answer: see Rat.
+func Answer(a api.Answer) api.Answer {
+	return api.Answer{Status: a.Status, Value: Rat(a.Value), Point: Point(a.Point), Basis: Basis(a.Basis), Cert: Cert(a.Cert), Ray: Ray(a.Ray)}
+}
+
 // List tells one list of a kind that this package doesn't know, whose elements have no lists of their own.
 func List[T any](b *Book, a []T, text func(T) string, scrawl T) { note(b, a, text, scrawl) }
 
@@ -187,6 +192,15 @@ func (b *Book) Basis(s api.Basis) {
 	text := func(s api.Status) string { return strconv.Itoa(int(s)) }
 	note(b, s.Cols, text, api.Status(scrawl))
 	note(b, s.Rows, text, api.Status(scrawl))
+}
+
+// Answer tells the lists of all that an answer may be shown by.
+func (b *Book) Answer(a api.Answer) {
+	b.Rat(a.Value)
+	b.Point(a.Point)
+	b.Basis(a.Basis)
+	b.Cert(a.Cert)
+	b.Ray(a.Ray)
 }
 
 func colText(c api.Col) string {
