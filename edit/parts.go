@@ -61,12 +61,15 @@ func mirrorTerm(v []api.Term, col int) {
 	}
 }
 
-// settle takes what the column adds to the row's activity, its variable being v, over to the row's bounds. The term itself stays.
-func settle(row *api.Row, col int, v api.Rat) {
-	a, _ := vec.At(row.Terms, col)
-	shift, _ := rat.Neg(times(a, v))
-	row.Lo, _ = ext.Shift(row.Lo, shift)
-	row.Hi, _ = ext.Shift(row.Hi, shift)
+// settleRow takes what the column adds to the row's activity, its variable being v, over to the row's bounds. The term itself stays.
+func settleRow(row *api.Row, col int, v api.Rat) {
+	for _, t := range row.Terms {
+		if t.Col == col {
+			shift, _ := rat.Neg(times(t.A, v))
+			row.Lo, _ = ext.Shift(row.Lo, shift)
+			row.Hi, _ = ext.Shift(row.Hi, shift)
+		}
+	}
 }
 
 // isZero wants r in form.

@@ -1,0 +1,30 @@
+package fixed_test
+
+import (
+	"testing"
+
+	"tableau/fixed"
+	"tableau/sample"
+	"tableau/trial"
+)
+
+// TestErrors: models that are not well formed, stacks of other sizes, and none; of several errors the least.
+func TestErrors(t *testing.T) {
+	if fault := trial.ErrorFault(fixed.Sweep); fault != "" {
+		t.Errorf("P19, errors: %s", fault)
+	}
+}
+
+// TestMemory: with models of each kind, and stacks behind each kind of step.
+func TestMemory(t *testing.T) {
+	for seed := range 200 {
+		if fault := trial.MemoryFault(fixed.Sweep, sample.Prunable(seed)); fault != "" {
+			t.Errorf("P19, memory, of %v: %s", sample.Prunable(seed), fault)
+		}
+	}
+	for i, m := range sample.Models() {
+		if fault := trial.MemoryFault(fixed.Sweep, m); fault != "" {
+			t.Errorf("P19, memory, model %d: %s", i, fault)
+		}
+	}
+}
