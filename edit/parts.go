@@ -72,6 +72,15 @@ func settleRow(row *api.Row, col int, v api.Rat) {
 	}
 }
 
+// lessTimes takes so many times the equation off the row.
+func lessTimes(row *api.Row, r api.Rat, equation api.Row) {
+	by, _ := rat.Neg(r)
+	shift := times(by, equation.Lo.V)
+	row.Terms, _ = vec.Plus(row.Terms, by, equation.Terms)
+	row.Lo, _ = ext.Shift(row.Lo, shift)
+	row.Hi, _ = ext.Shift(row.Hi, shift)
+}
+
 // isZero wants r in form.
 func isZero(r api.Rat) bool { return len(r.Num) == 0 }
 
@@ -79,6 +88,18 @@ func isZero(r api.Rat) bool { return len(r.Num) == 0 }
 func plus(a, b api.Rat) api.Rat {
 	sum, _ := rat.Add(a, b)
 	return sum
+}
+
+// minus wants both in form.
+func minus(a, b api.Rat) api.Rat {
+	difference, _ := rat.Sub(a, b)
+	return difference
+}
+
+// over wants both in form, and b not 0.
+func over(a, b api.Rat) api.Rat {
+	quotient, _ := rat.Quo(a, b)
+	return quotient
 }
 
 // times wants both in form.

@@ -17,7 +17,7 @@ type lone struct {
 // Dual: the sign of the reduced cost tells which bound it needs.
 func (l lone) Dual(p api.Point) api.Point {
 	p = l.Row.Dual(p)
-	if l.took(leans(p.Z[l.col], api.Basic)) {
+	if l.took(stack.Leans(p.Z[l.col], api.Basic)) {
 		l.lay(p)
 	}
 	return p
@@ -27,7 +27,7 @@ func (l lone) Dual(p api.Point) api.Point {
 func (l lone) Basis(c stack.Corner) stack.Corner {
 	c = l.Row.Basis(c)
 	cols, rows := c.Basis.Cols, c.Basis.Rows
-	side := leans(c.Point.Z[l.col], cols[l.col])
+	side := stack.Leans(c.Point.Z[l.col], cols[l.col])
 	cols[l.col] = side
 	if l.took(side) {
 		cols[l.col], rows[l.At] = api.Basic, l.side(side)
@@ -61,29 +61,15 @@ func (l lone) took(side api.Status) bool {
 
 // side: at which of its bounds the row is where the column is at this one of the row's.
 func (l lone) side(col api.Status) api.Status {
-	if !l.a.Neg {
-		return col
+	if l.a.Neg {
+		return stack.Opposite(col)
 	}
-	if col == api.Lower {
-		return api.Upper
-	}
-	return api.Lower
+	return col
 }
 
 // lay lays the column's reduced cost on the row, in p's own lists.
 func (l lone) lay(p api.Point) {
 	p.Y[l.At], p.Z[l.col] = over(p.Z[l.col], l.a), rat.Of(0)
-}
-
-// leans: which bound this reduced cost needs; status, if it is 0. Where both bounds are one number, a column may rest at the one and need the other.
-func leans(z api.Rat, status api.Status) api.Status {
-	switch {
-	case len(z.Num) == 0:
-		return status
-	case z.Neg:
-		return api.Upper
-	}
-	return api.Lower
 }
 
 // over wants both in form, and b not 0.

@@ -73,6 +73,86 @@ func TestColumn(t *testing.T) {
 	}
 }
 
+// TestEquation: a column that went with the equation that tells it comes back with it: the equation bears what the other rows leave of the column.
+func TestEquation(t *testing.T) {
+	// z is (4 - x - 3 w) / 2.
+	m := read(t, "min 0 / col x 2 0 1 / col z 5 -inf inf / col w 1 0 1 / row r 0 1 1 x 2 z / row q 4 4 1 x 2 z 3 w / row p 0 1 -4 z")
+	s := pushed(t, 3, 3, stack.NewEquation(m, 1, 1))
+	if a, b, n, k := s.Size(); a != 3 || b != 3 || n != 2 || k != 2 || s.Tightened() {
+		t.Errorf("P17.1: Size = %d, %d, %d, %d, Tightened = %v", a, b, n, k, s.Tightened())
+	}
+	behind := func(x []api.Rat, v api.Rat) []api.Rat { return []api.Rat{x[0], v, x[1]} }
+	for _, c := range []struct {
+		x, d         []api.Rat
+		z            api.Rat // (4 - x - 3 w) / 2
+		move         api.Rat // (- x - 3 w) / 2
+		y            []api.Rat
+		bears        api.Rat // (5 - 2 y[0] + 4 y[1]) / 2
+		rowLo, rowHi []api.Rat
+		lo, hi       int // of -(2 (lo - hi)[0] - 4 (lo - hi)[1]) / 2
+	}{
+		{nums(0, 0), nums(0, 0), sample.Frac(2, 1), sample.Frac(0, 1), nums(0, 0), sample.Frac(5, 2), nums(0, 0), nums(0, 0), 0, 0},
+		{nums(1, 2), nums(2, -3), sample.Frac(-3, 2), sample.Frac(7, 2), nums(1, 2), sample.Frac(11, 2), nums(1, 0), nums(0, 0), 0, 1},
+		{nums(-4, 0), nums(-1, 0), sample.Frac(4, 1), sample.Frac(1, 2), nums(3, -1), sample.Frac(-5, 2), nums(0, 3), nums(2, 1), 6, 0},
+		{nums(4, 0), nums(0, 1), sample.Frac(0, 1), sample.Frac(-3, 2), nums(0, -2), sample.Frac(-3, 2), nums(6, 3), nums(0, 0), 0, 0},
+	} {
+		in, want := fitting(2, 2), fitting(2, 2)
+		in.x, in.d, in.p.X, in.q.X = c.x, c.d, c.x, c.x
+		in.p.Y, in.q.Y, in.c.RowLo, in.c.RowHi = c.y, c.y, c.rowLo, c.rowHi
+		want.x, want.d = behind(c.x, c.z), behind(c.d, c.move)
+		want.p = api.Point{X: want.x, Y: behind(c.y, c.bears), Z: behind(in.p.Z, nums(0)[0])}
+		want.q = api.Point{X: want.x, Y: behind(c.y, c.bears), Z: behind(in.q.Z, nums(0)[0])}
+		want.b = api.Basis{Cols: []api.Status{in.b.Cols[0], api.Basic, in.b.Cols[1]}, Rows: []api.Status{in.b.Rows[0], api.Lower, in.b.Rows[1]}}
+		want.c = api.Cert{RowLo: behind(c.rowLo, nums(c.lo)[0]), RowHi: behind(c.rowHi, nums(c.hi)[0]), ColLo: behind(in.c.ColLo, nums(0)[0]), ColHi: behind(in.c.ColHi, nums(0)[0])}
+		checkOutput(t, "P17.3, P17.4: an equation", ask(s, in), want, all(api.OK))
+	}
+}
+
+// TestEquationKeeps: nor does an equation that went keep memory of its model.
+func TestEquationKeeps(t *testing.T) {
+	own := guard.Model(read(t, "min 0 / col x 2 0 1 / col z 5 -inf inf / col w 1 0 1 / row r 0 1 1 x 2 z / row q 4 4 1 x 2 z 3 w"))
+	s := pushed(t, 3, 2, stack.NewEquation(own, 1, 1))
+	before := trial.Told(s)
+	for _, r := range []api.Rat{own.Cols[1].Cost, own.Rows[1].Lo.V, own.Rows[1].Hi.V, own.Rows[0].Terms[1].A, own.Rows[1].Terms[0].A, own.Rows[1].Terms[1].A, own.Rows[1].Terms[2].A} {
+		r.Num[0] += 10
+		r.Den[0] += 10
+	}
+	own.Rows[1].Terms[0].Col, own.Rows[0].Terms[1].Col = 2, 7
+	if trial.Told(s) != before {
+		t.Errorf("P17.5: what the stack tells has changed with the model")
+	}
+	if fault := trial.StackFault(s); fault != "" {
+		t.Errorf("P17.5: %s", fault)
+	}
+}
+
+// TestSides: which bound a reduced cost needs, the other bound, and a multiplier as that of one bound.
+func TestSides(t *testing.T) {
+	for _, status := range []api.Status{api.Basic, api.Lower, api.Upper, api.Free} {
+		for i, r := range sample.Rats() {
+			want, lo, hi := status, sample.Frac(0, 1), sample.Frac(0, 1)
+			switch {
+			case r.Neg:
+				want, hi = api.Upper, sample.Rats()[i]
+				hi.Neg = false
+			case len(r.Num) > 0:
+				want, lo = api.Lower, r
+			}
+			if got := stack.Leans(r, status); got != want {
+				t.Errorf("Leans(%v, %d) = %d", r, status, got)
+			}
+			if a, b := stack.Sides(r); !sameRat(a, lo) || !sameRat(b, hi) {
+				t.Errorf("Sides(%v) = %v, %v", r, a, b)
+			}
+		}
+	}
+	for status, want := range []api.Status{api.Basic, api.Upper, api.Lower, api.Free} {
+		if got := stack.Opposite(api.Status(status)); got != want {
+			t.Errorf("Opposite(%d) = %d", status, got)
+		}
+	}
+}
+
 // TestKeeps: a column that went keeps no memory of its model.
 func TestKeeps(t *testing.T) {
 	m := read(t, "min 0 / col x 2 3 3 / col y 5 0 7 / row r 0 1 1 x 2 y")

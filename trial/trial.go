@@ -40,7 +40,41 @@ func Fault(m, r api.Model, s *stack.Stack, k Known) string {
 			return "basis " + strconv.Itoa(i) + ": " + fault
 		}
 	}
-	for i, c := range k.Certs {
+	return certsFault(m, s, k.Certs)
+}
+
+// PendingFault tells what of P6 and P7 does not hold where the script ended with d pending, at all that is known of r.
+func PendingFault(m, r api.Model, s *stack.Stack, d []api.Rat, k Known) string {
+	lifted, e := s.Lift(d)
+	if is, f := ray.Recedes(m, lifted); e != api.OK || f != api.OK || !is {
+		return "the direction is taken to one that doesn't recede"
+	}
+	if !slope(m, lifted).Neg {
+		return "the value does not fall in the direction"
+	}
+	if priced(r) {
+		return "a cost, or an offset, beside the direction"
+	}
+	a, _ := simplex.Solve(m)
+	if b, _ := simplex.Solve(r); (a.Status == api.Infeasible) != (b.Status == api.Infeasible) {
+		return "one of the two models has a point, and the other one has none"
+	}
+	for i, x := range k.Points {
+		back, e := s.Primal(x)
+		if is, f := ray.Valid(m, api.Ray{X: back, D: lifted}); e != api.OK || f != api.OK || !is {
+			return "point " + strconv.Itoa(i) + " is taken to none of a ray"
+		}
+	}
+	return certsFault(m, s, k.Certs)
+}
+
+// priced: is a cost other than 0, or the offset?
+func priced(m api.Model) bool {
+	return len(m.Offset.Num) > 0 || slices.ContainsFunc(m.Cols, func(c api.Col) bool { return len(c.Cost.Num) > 0 })
+}
+
+func certsFault(m api.Model, s *stack.Stack, certs []api.Cert) string {
+	for i, c := range certs {
 		back, e := s.Cert(c)
 		if is, f := farkas.Valid(m, back); e != api.OK || f != api.OK || !is {
 			return "certificate " + strconv.Itoa(i) + " is taken to none"

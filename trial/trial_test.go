@@ -1,6 +1,7 @@
 package trial_test
 
 import (
+	"strings"
 	"testing"
 
 	"tableau/api"
@@ -10,6 +11,7 @@ import (
 	"tableau/sample"
 	"tableau/single"
 	"tableau/stack"
+	"tableau/text"
 	"tableau/trial"
 )
 
@@ -107,10 +109,97 @@ func bending(how string) trial.Sweep {
 		case how == "Empty":
 			n, k := noughts(len(r.Cols)), noughts(len(r.Rows))
 			o = api.Outcome{Kind: api.Empty, Cert: api.Cert{RowLo: k, RowHi: k, ColLo: n, ColHi: n}}
+		case strings.HasPrefix(how, "Pending"):
+			return pending(r, how)
 		case how == "error":
 			return r, o, api.ErrFull
 		}
 		return r, o, api.OK
+	}
+}
+
+// pending: the first column goes where its cost likes it, as if nothing held it; or that, bent.
+func pending(r api.Model, how string) (api.Model, api.Outcome, api.Errno) {
+	o := api.Outcome{Kind: api.Pending, D: noughts(len(r.Cols))}
+	if len(r.Cols) > 0 && how != "Pending without a way" {
+		o.D[0] = rat.Of(1)
+		if !r.Cols[0].Cost.Neg {
+			o.D[0] = rat.Of(-1)
+		}
+	}
+	for i := range r.Cols {
+		if how != "Pending with costs" {
+			r.Cols[i].Cost = rat.Of(0)
+		}
+	}
+	if how != "Pending with an offset" {
+		r.Offset = rat.Of(0)
+	}
+	switch {
+	case how == "Pending with a D too long":
+		o.D = append(o.D, rat.Of(0))
+	case how == "Pending with a Cert":
+		o.Cert.RowHi = []api.Rat{rat.Of(0)}
+	case how == "Pending with another model" && len(r.Cols) > 0:
+		r.Cols[0].Lo, r.Cols[0].Hi = sample.Low(), sample.High()
+	case how == "Pending without a point" && len(r.Cols) > 0:
+		r.Cols[0].Lo, r.Cols[0].Hi = sample.At(1), sample.At(0)
+	}
+	return r, o, api.OK
+}
+
+// falls: models whose first column falls without end, with a point and without.
+func falls() []api.Model {
+	var out []api.Model
+	for _, s := range []string{
+		"min 1\ncol x 1 -inf 3\ncol y 2 0 4\nrow r -inf 5 1 x 1 y\nend\n",
+		"min 1\ncol x 1 -inf 3\ncol y 2 5 4\nrow r -inf 5 1 x 1 y\nend\n",
+		"min 2\ncol x 2 -inf inf\ncol y 0 0 1\nrow r 7 inf -1 x\nrow q 1 2\nend\n",
+	} {
+		m, _, _ := text.Parse(s)
+		out = append(out, m)
+	}
+	return out
+}
+
+// TestPending: a direction that is pending, and each thing that is bent about it.
+func TestPending(t *testing.T) {
+	faults := func(how string, sweeps ...trial.Sweep) int {
+		count := 0
+		for _, m := range falls() {
+			k, o, fault := trial.Way(m, append(sweeps, bending(how))...)
+			if fault != "" {
+				count++
+			} else if o.Kind != api.Pending || len(k.Points)+len(k.Certs) == 0 {
+				t.Errorf("%q: the outcome %d, %v", how, o.Kind, k)
+			}
+		}
+		return count
+	}
+	if n := faults("Pending"); n > 0 {
+		t.Errorf("%d faults", n)
+	}
+	for _, how := range []string{
+		"Pending without a way", "Pending with costs", "Pending with an offset", "Pending with a D too long", "Pending with a Cert", "Pending with another model", "Pending without a point",
+	} {
+		if faults(how) == 0 {
+			t.Errorf("%q: no fault is found", how)
+		}
+	}
+	for _, how := range []string{"Primal", "Lift", "Cert's RowLo", "Cert's ColHi", "Gone"} {
+		if faults("Pending", bending(how)) == 0 {
+			t.Errorf("%q, ahead of a direction that is pending: no fault is found", how)
+		}
+	}
+	for _, m := range falls() {
+		m.Cols[0].Cost = rat.Of(0)
+		if _, _, fault := trial.Way(m, bending("Pending")); fault == "" {
+			t.Errorf("the value does not fall, and no fault is found")
+		}
+		m.Cols[0].Cost, m.Cols[0].Lo = rat.Of(1), sample.At(-9)
+		if _, _, fault := trial.Way(m, bending("Pending")); fault == "" {
+			t.Errorf("the direction doesn't recede, and no fault is found")
+		}
 	}
 }
 

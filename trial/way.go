@@ -20,8 +20,12 @@ func Way(m api.Model, sweeps ...Sweep) (Known, api.Outcome, string) {
 		if fault := formFault(m, r, s, o, e); fault != "" {
 			return Known{}, o, "sweep " + strconv.Itoa(i) + ": " + fault
 		}
-		if o.Kind == api.Empty {
+		switch o.Kind {
+		case api.Empty:
 			return Known{}, o, emptyFault(m, r, s, o.Cert)
+		case api.Pending:
+			k := Of(r)
+			return k, o, PendingFault(m, r, s, o.D, k)
 		}
 	}
 	k := Of(r)
@@ -38,11 +42,11 @@ func formFault(m, r api.Model, s *stack.Stack, o api.Outcome, e api.Errno) strin
 		return "a model that is not well formed"
 	case a != len(m.Cols) || b != len(m.Rows) || n != len(r.Cols) || k != len(r.Rows):
 		return "the stack is of other sizes"
-	case o.Kind != api.Went && o.Kind != api.Empty:
+	case o.Kind != api.Went && o.Kind != api.Empty && o.Kind != api.Pending:
 		return "an outcome of the kind " + strconv.Itoa(o.Kind)
-	case len(o.D) > 0:
+	case o.Kind != api.Pending && len(o.D) > 0:
 		return "a direction beside the outcome"
-	case o.Kind == api.Went && len(o.Cert.RowLo)+len(o.Cert.RowHi)+len(o.Cert.ColLo)+len(o.Cert.ColHi) > 0:
+	case o.Kind != api.Empty && len(o.Cert.RowLo)+len(o.Cert.RowHi)+len(o.Cert.ColLo)+len(o.Cert.ColHi) > 0:
 		return "a certificate beside the outcome"
 	}
 	return ""
