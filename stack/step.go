@@ -70,25 +70,3 @@ func (r Row) Cert(c api.Cert) api.Cert {
 	c.RowHi = slices.Insert(c.RowHi, r.At, rat.Of(0))
 	return c
 }
-
-// Leans: which bound of a column this reduced cost needs; status, if it is 0. Where both bounds are one number, a column may rest at the one and need the other.
-func Leans(z api.Rat, status api.Status) api.Status {
-	switch {
-	case len(z.Num) == 0:
-		return status
-	case z.Neg:
-		return api.Upper
-	}
-	return api.Lower
-}
-
-// Opposite: the other bound's status; that of no bound stays what it is.
-func Opposite(side api.Status) api.Status {
-	switch side {
-	case api.Lower:
-		return api.Upper
-	case api.Upper:
-		return api.Lower
-	}
-	return side
-}

@@ -126,29 +126,16 @@ func TestEquationKeeps(t *testing.T) {
 	}
 }
 
-// TestSides: which bound a reduced cost needs, the other bound, and a multiplier as that of one bound.
+// TestSides: a multiplier as that of one bound.
 func TestSides(t *testing.T) {
-	for _, status := range []api.Status{api.Basic, api.Lower, api.Upper, api.Free} {
-		for i, r := range sample.Rats() {
-			want, lo, hi := status, sample.Frac(0, 1), sample.Frac(0, 1)
-			switch {
-			case r.Neg:
-				want, hi = api.Upper, sample.Rats()[i]
-				hi.Neg = false
-			case len(r.Num) > 0:
-				want, lo = api.Lower, r
-			}
-			if got := stack.Leans(r, status); got != want {
-				t.Errorf("Leans(%v, %d) = %d", r, status, got)
-			}
-			if a, b := stack.Sides(r); !sameRat(a, lo) || !sameRat(b, hi) {
-				t.Errorf("Sides(%v) = %v, %v", r, a, b)
-			}
+	for i, r := range sample.Rats() {
+		lo, hi := r, sample.Frac(0, 1)
+		if r.Neg {
+			lo, hi = hi, sample.Rats()[i]
+			hi.Neg = false
 		}
-	}
-	for status, want := range []api.Status{api.Basic, api.Upper, api.Lower, api.Free} {
-		if got := stack.Opposite(api.Status(status)); got != want {
-			t.Errorf("Opposite(%d) = %d", status, got)
+		if a, b := stack.Sides(r); !sameRat(a, lo) || !sameRat(b, hi) {
+			t.Errorf("Sides(%v) = %v, %v", r, a, b)
 		}
 	}
 }
