@@ -20,16 +20,28 @@ func Way(m api.Model, sweeps ...Sweep) (Known, api.Outcome, string) {
 		if fault := formFault(m, r, s, o, e); fault != "" {
 			return Known{}, o, "sweep " + strconv.Itoa(i) + ": " + fault
 		}
-		switch o.Kind {
-		case api.Empty:
-			return Known{}, o, emptyFault(m, r, s, o.Cert)
-		case api.Pending:
-			k := Of(r)
-			return k, o, PendingFault(m, r, s, o.D, k)
+		if o.Kind != api.Went {
+			break
 		}
 	}
+	k, fault := Left(m, r, s, o)
+	return k, o, fault
+}
+
+// Left tells what of P6 and P7 does not hold of m, of r, which a script has made of it, of the stack behind it, and of how it ended; "" if all of it holds. It answers what is known of r, too.
+func Left(m, r api.Model, s *stack.Stack, o api.Outcome) (Known, string) {
+	if fault := formFault(m, r, s, o, api.OK); fault != "" {
+		return Known{}, fault
+	}
+	switch o.Kind {
+	case api.Empty:
+		return Known{}, emptyFault(m, r, s, o.Cert)
+	case api.Pending:
+		k := Of(r)
+		return k, PendingFault(m, r, s, o.D, k)
+	}
 	k := Of(r)
-	return k, o, Fault(m, r, s, k)
+	return k, Fault(m, r, s, k)
 }
 
 // formFault: is what a sweep answered as every answer of one is?
