@@ -102,57 +102,11 @@ func TestNoStack(t *testing.T) {
 	}
 }
 
-// wrongs: what is no answer where a is one: other statuses, values, numbers, lengths, and fields beside it.
-func wrongs(a api.Answer) []api.Answer {
-	var out []api.Answer
-	put := func(turn func(a *api.Answer)) {
-		own := a
-		turn(&own)
-		out = append(out, own)
-	}
-	for status := -1; status < 5; status++ {
-		if status != a.Status {
-			put(func(a *api.Answer) { a.Status = status })
-			out = append(out, api.Answer{Status: status})
-		}
-	}
-	put(func(a *api.Answer) { a.Value = sample.Frac(12345, 7) })
-	put(func(a *api.Answer) { a.Value = api.Rat{Neg: true} })
-	put(func(a *api.Answer) { a.Ray.X = append(slices.Clone(a.Ray.X), rat.Of(0)) })
-	put(func(a *api.Answer) { a.Ray.D = append(slices.Clone(a.Ray.D), rat.Of(0)) })
-	put(func(a *api.Answer) { a.Cert.RowLo = append(slices.Clone(a.Cert.RowLo), rat.Of(0)) })
-	put(func(a *api.Answer) { a.Cert.ColHi = append(slices.Clone(a.Cert.ColHi), api.Rat{}) })
-	put(func(a *api.Answer) { a.Point.X = append(slices.Clone(a.Point.X), rat.Of(0)) })
-	put(func(a *api.Answer) { a.Point.Y = append(slices.Clone(a.Point.Y), rat.Of(0)) })
-	put(func(a *api.Answer) { a.Basis.Cols = append(slices.Clone(a.Basis.Cols), api.Lower) })
-	put(func(a *api.Answer) { a.Basis.Rows = append(slices.Clone(a.Basis.Rows), api.Basic) })
-	for _, list := range []func(a *api.Answer) *[]api.Rat{
-		func(a *api.Answer) *[]api.Rat { return &a.Point.X }, func(a *api.Answer) *[]api.Rat { return &a.Point.Y }, func(a *api.Answer) *[]api.Rat { return &a.Point.Z },
-		func(a *api.Answer) *[]api.Rat { return &a.Cert.RowLo }, func(a *api.Answer) *[]api.Rat { return &a.Cert.ColLo }, func(a *api.Answer) *[]api.Rat { return &a.Ray.D },
-	} {
-		for place, r := range *list(&a) {
-			less, _ := rat.Sub(r, sample.Frac(100, 1))
-			for _, other := range []api.Rat{less, {Neg: r.Neg, Num: r.Num}} {
-				put(func(a *api.Answer) {
-					*list(a) = slices.Clone(*list(a))
-					(*list(a))[place] = other
-				})
-			}
-		}
-	}
-	for place := range a.Basis.Cols {
-		for status := api.Status(-1); status < 5; status++ {
-			put(func(a *api.Answer) { a.Basis.Cols = slices.Clone(a.Basis.Cols); a.Basis.Cols[place] = status })
-		}
-	}
-	return out
-}
-
 // TestNoAnswer: ErrPoint just where Judge says that it is none of what is left; but of Empty it is not looked at.
 func TestNoAnswer(t *testing.T) {
 	wrong := 0
 	for _, f := range finishes(t) {
-		for _, a := range append(wrongs(f.a), api.Answer{}) {
+		for _, a := range append(trial.Wrongs(f.a), api.Answer{}) {
 			want := api.OK
 			if is, _ := simplex.Judge(f.r.Model, a); !is && f.r.Outcome.Kind != api.Empty {
 				want = api.ErrPoint

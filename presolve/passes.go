@@ -50,7 +50,8 @@ func checkCodes(codes ...int) api.Errno {
 	return api.OK
 }
 
-func checkScript(script []int) api.Errno {
+// CheckScript: what is wrong with a script, whatever the model. It is for the layers above, which ask ahead of a run.
+func CheckScript(script []int) api.Errno {
 	if len(script) > api.MaxScript {
 		return api.ErrLong
 	}
