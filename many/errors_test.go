@@ -97,7 +97,7 @@ func tellResults(b *guard.Book, l []many.Result) {
 // padded: a copy with marks in spare room behind it.
 func padded(script []int) []int { return append(slices.Clone(script), 77, 78, 79)[:len(script)] }
 
-// TestMemoryOfRun: jobs and scripts stay as they are, spare room too, and results are new memory, also of jobs that share a script.
+// TestMemoryOfRun: jobs and scripts stay as they are, spare room too, and results are new memory, also of jobs that share a script, or a text too.
 func TestMemoryOfRun(t *testing.T) {
 	for _, workers := range []int{1, 3, 64, 0} {
 		jobs := append(mixed(30), many.Job{Text: "spare"})[:30]
@@ -105,6 +105,7 @@ func TestMemoryOfRun(t *testing.T) {
 			jobs[i].Script = padded(jobs[i].Script)
 		}
 		jobs[4].Script, jobs[5].Script = jobs[6].Script, jobs[6].Script
+		jobs[8], jobs[9], jobs[29] = jobs[0], jobs[0], jobs[10]
 		handed := func(b *guard.Book) {
 			guard.List(b, jobs, func(j many.Job) string { return j.Text + name(len(j.Script)) }, many.Job{Text: "scrawl"})
 			for _, j := range jobs[:30] {

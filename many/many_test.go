@@ -50,6 +50,28 @@ func TestRun(t *testing.T) {
 	}
 }
 
+// TestOneText: jobs of one text by several scripts, of which each has its own answer, and by one script, several times.
+func TestOneText(t *testing.T) {
+	apart := 0
+	for seed := range 40 {
+		var jobs []many.Job
+		for _, script := range append(drawnScripts(seed, 10), nil, []int{9}, []int{7}, []int{7}, make([]int, 65), nil) {
+			jobs = append(jobs, many.Job{Text: printed(sample.Busy(seed)), Script: script})
+		}
+		for _, j := range jobs[1:] {
+			if !sameResult(one(jobs[0]), one(j)) {
+				apart++
+			}
+		}
+		for _, workers := range []int{1, 2, 5, 16, 64} {
+			checkRun(t, jobs, workers)
+		}
+	}
+	if apart < 100 {
+		t.Errorf("only %d jobs had another answer than the first one of the same text", apart)
+	}
+}
+
 // TestOrder: each job has an answer of its own, which tells its place; the first ones take longest.
 func TestOrder(t *testing.T) {
 	jobs := []many.Job{{Text: printed(sample.Full()), Script: []int{7, 7, 7}}, {Text: printed(sample.Full())}}
